@@ -1,0 +1,1 @@
+"""Handshaker: programs of threads whose blocks wait and choose."""
