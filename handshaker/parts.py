@@ -9,3 +9,27 @@ def parts_of(expression):
     if word == "cell":
         return expression[2:]
     return expression[1:]
+
+
+def expressions_of(statement):
+    """Return the tuple of the expressions that stand directly in a statement."""
+    word = statement[0]
+    if word == "set" or word == "put":
+        return statement[2:]
+    if word == "say" or word == "pause" or word == "later":
+        return statement[1:]
+    if word == "if" or word == "repeat":
+        return statement[1:2]
+    if word == "block" and statement[1] is not None:
+        return statement[1:2]
+    return ()
+
+
+def lists_of(statement):
+    """Return the tuple of the lists that stand directly in a statement."""
+    word = statement[0]
+    if word == "if" or word == "repeat" or word == "block":
+        return statement[2:]
+    if word == "choose":
+        return statement[1:]
+    return ()

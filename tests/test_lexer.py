@@ -54,6 +54,8 @@ class TokensTest(unittest.TestCase):
     def test_words_beside_numbers(self):
         self.assertEqual(texts("12ab3"), [("number", "12"), ("word", "ab"), ("number", "3")])
         self.assertEqual(texts("0a0"), [("number", "0"), ("word", "a"), ("number", "0")])
+        for letter in "abcdefghijklmnopqrstuvwxyz":
+            self.assertEqual(texts("10" + letter), [("number", "10"), ("word", letter)])
         self.assertEqual(texts("ab cd"), [("word", "ab"), ("word", "cd")])
         self.assertEqual(texts("1 0"), [("number", "1"), ("number", "0")])
 

@@ -1,0 +1,98 @@
+"""Programs of many forms for the tests."""
+
+from handshaker.syntax import Program, Thread
+
+WORDS_OF_TWO = ("plus", "minus", "times", "over", "rest", "less", "atmost", "same", "and", "or")
+NUMBERS = (0, 1, 2, 7, -1, -30, 1000000000, -1000000000)
+
+
+class Maker:
+    """Makes programs that are let by, from the choices of a random.Random."""
+
+    def __init__(self, choice):
+        self.choice = choice
+        self.left = 0
+        self.cells = []
+        self.variables = []
+
+    def program(self):
+        """A program of 1 to 6 threads."""
+        names = self.names(self.choice.randint(0, 4))
+        self.cells = [(name, self.choice.randint(1, 6), self.number()) for name in names]
+        threads = []
+        for name in self.names(self.choice.randint(1, 6)):
+            locals_free = [one for one in self.names(self.choice.randint(0, 10)) if one not in names]
+            self.variables = [(one, self.number()) for one in locals_free]
+            self.left = self.choice.choice((3, 10, 80))
+            threads.append(Thread(name, self.variables, self.statements(False, 1, 0)))
+        return Program(self.cells, threads)
+
+    def names(self, many):
+        pool = ["a", "b", "x", "count", "abcdefghijkl", "plus", "number", "atoms", "ende", "z", "ann", "bob"]
+        self.choice.shuffle(pool)
+        return pool[:many]
+
+    def number(self):
+        return self.choice.choice(NUMBERS)
+
+    def expression(self, depth, with_cells):
+        """An expression with cells or without; parts stand at most so deep."""
+        leaves = ["number"] + ["local"] * 2 * bool(self.variables) + ["cell"] * bool(with_cells and self.cells)
+        if depth == 0 or self.choice.random() < 0.3:
+            word = self.choice.choice(leaves)
+        else:
+            word = self.choice.choice(leaves + ["negative", "not", *WORDS_OF_TWO])
+        if word == "number":
+            return (word, self.number())
+        if word == "local":
+            return (word, self.choice.choice(self.variables)[0])
+        if word == "cell":
+            return (word, self.choice.choice(self.cells)[0], self.index(depth, with_cells))
+        many = 1 if word in ("negative", "not") else 2
+        return (word, *[self.expression(depth - 1, with_cells) for _ in range(many)])
+
+    def index(self, depth, with_cells):
+        if depth == 0 or self.choice.random() < 0.5:
+            return ("number", 0)
+        return self.expression(depth - 1, with_cells)
+
+    def statements(self, in_block, depth, repeats):
+        """A list of statements that stands in so many lists, itself included, and repeats."""
+        found = []
+        for _ in range(self.choice.randint(0, 6)):
+            if self.left > 0:
+                self.left -= 1
+                found.append(self.statement(in_block, depth, repeats))
+        return found
+
+    def statement(self, in_block, depth, repeats):
+        words = ["set"] * bool(self.variables)
+        words += ["later", "retry", "undo"] + ["put"] * 2 * bool(self.cells) if in_block else ["say", "pause"]
+        if depth < 6:
+            words += ["if", "choose"] if in_block else ["if", "block", "block"]
+            words += ["repeat"] * (repeats < 2)
+        word = self.choice.choice(words)
+        if word in ("retry", "undo"):
+            return (word,)
+        if word == "choose":
+            return (word, self.statements(True, depth + 1, repeats), self.statements(True, depth + 1, repeats))
+        if word == "block":
+            return self.block(depth, repeats)
+        value = self.expression(3, in_block)
+        if word == "set":
+            return (word, self.choice.choice(self.variables)[0], value)
+        if word == "put":
+            return (word, self.choice.choice(self.cells)[0], self.index(2, True), value)
+        if word == "if":
+            first = self.statements(in_block, depth + 1, repeats)
+            return (word, value, first, self.statements(in_block, depth + 1, repeats))
+        if word == "repeat":
+            return (word, value, self.statements(in_block, depth + 1, repeats + 1))
+        return (word, value)
+
+    def block(self, depth, repeats):
+        body = self.statements(True, depth + 1, repeats)
+        if self.choice.random() < 0.5:
+            return ("block", None, body, [])
+        limit = self.expression(2, False)
+        return ("block", limit, body, self.statements(False, depth + 1, repeats))
