@@ -1,4 +1,4 @@
-"""The limits of a program."""
+"""The limits of a program, and of what it counts."""
 
 from handshaker.parts import lists_of
 
@@ -8,6 +8,8 @@ MOST_LOCALS = 10
 MOST_STATEMENTS = 80
 MOST_LISTS = 6
 MOST_REPEATS = 2
+MOST_TIMES = 20
+MOST_TICKS = 1000
 
 
 def measure(statements):

@@ -1,14 +1,27 @@
 """The expressions and lists of which expressions and statements are made."""
 
+LEAVES = ("number", "local", "slot")
+
 
 def parts_of(expression):
     """Return the tuple of the expressions that stand directly in an expression."""
     word = expression[0]
-    if word == "number" or word == "local":
+    if word in LEAVES:
         return ()
     if word == "cell":
         return expression[2:]
     return expression[1:]
+
+
+def occurs(word, expression):
+    """Return True if an expression with this word stands in an expression, or is the expression."""
+    waiting = [expression]
+    while waiting:
+        part = waiting.pop()
+        if part[0] == word:
+            return True
+        waiting.extend(parts_of(part))
+    return False
 
 
 def expressions_of(statement):

@@ -209,10 +209,17 @@ class CodeTest(unittest.TestCase):
                     self.assertNotIn(node.id, taken, f"{name}:{node.lineno}")
 
     def test_builtins(self):
-        own = {name for _, name in bound_names()}
+        own = {name for _, name in bound_names()} | {"super"}
         for place, node in nodes(ast.Name):
             if isinstance(node.ctx, ast.Load) and node.id not in own:
                 self.assertIn(node.id, ALLOWED_BUILTINS, place)
+
+    def test_super_is_called_for_a_method(self):
+        good = {id(node.value.func) for _, node in nodes(ast.Attribute)
+                if isinstance(node.value, ast.Call) and node.value.args == []}
+        for place, node in nodes(ast.Name):
+            if node.id == "super":
+                self.assertIn(id(node), good, place)
 
     def test_methods(self):
         for place, node in nodes(ast.Call):
@@ -221,10 +228,35 @@ class CodeTest(unittest.TestCase):
 
     def test_attributes(self):
         assigned = {node.attr for _, node in nodes(ast.Attribute) if isinstance(node.ctx, ast.Store)}
-        self.assertEqual(assigned & METHODS, set())
         self.assertEqual(assigned & BARRED_ATTRIBUTES, set())
         for place, node in nodes(ast.Attribute):
-            self.assertIn(node.attr, assigned | METHODS | ALLOWED_METHODS, place)
+            self.assertIn(node.attr, assigned | METHODS | ALLOWED_METHODS | {"__init__"}, place)
+
+    def test_no_name_is_a_method_and_an_attribute_in_a_family(self):
+        families = {}
+        for place, owner in nodes(ast.ClassDef):
+            methods = {node.name for node in owner.body if isinstance(node, ast.FunctionDef)}
+            assigned = {node.attr for node in ast.walk(owner) if isinstance(node, ast.Attribute)
+                        and isinstance(node.ctx, ast.Store) and node.value.id == "self"}
+            families[owner.name] = (methods, assigned, [base.id for base in owner.bases if base.id != "ValueError"])
+        for name, (methods, assigned, bases) in families.items():
+            self.assertEqual(methods & assigned, set(), name)
+            while bases:
+                above, set_above, bases = families[bases[0]]
+                self.assertEqual(methods & set_above | assigned & above, set(), name)
+
+    def test_no_method_is_read_off_a_class(self):
+        owners = {node.name for _, node in nodes(ast.ClassDef)}
+        for place, node in nodes(ast.Attribute):
+            if isinstance(node.value, ast.Name):
+                self.assertNotIn(node.value.id, owners, place)
+
+    def test_methods_are_called_where_they_stand(self):
+        called = {id(node.func) for _, node in nodes(ast.Call)}
+        assigned = {node.attr for _, node in nodes(ast.Attribute) if isinstance(node.ctx, ast.Store)}
+        for place, node in nodes(ast.Attribute):
+            if node.attr in METHODS - assigned:
+                self.assertIn(id(node), called, place)
 
     def test_classes(self):
         for place, node in nodes(ast.ClassDef):
@@ -266,9 +298,22 @@ class CodeTest(unittest.TestCase):
             if called in AT_ONCE:
                 self.assertIn(id(node), seen, place)
 
-    def test_comprehensions(self):
-        for place, node in nodes((ast.SetComp, ast.Set, ast.Await, ast.YieldFrom, ast.Yield)):
+    def test_sets_are_used_on_the_spot(self):
+        good = {id(node.args[0]) for _, node in nodes(ast.Call)
+                if isinstance(node.func, ast.Name) and node.func.id in ("sorted", "len") and not node.keywords}
+        for place, node in nodes((ast.SetComp, ast.Call)):
+            if isinstance(node, ast.SetComp) or isinstance(node.func, ast.Name) and node.func.id == "set":
+                self.assertIn(id(node), good, place)
+
+    def test_neither_generators_nor_literal_sets(self):
+        for place, node in nodes((ast.Set, ast.Await, ast.YieldFrom, ast.Yield)):
             self.fail(place)
+
+    def test_generator_expressions_stand_in_calls_of_builtins(self):
+        good = {id(node.args[0]) for _, node in nodes(ast.Call) if len(node.args) == 1
+                and isinstance(node.func, ast.Name) and node.func.id in TAKERS}
+        for place, node in nodes(ast.GeneratorExp):
+            self.assertIn(id(node), good, place)
 
 
 if __name__ == "__main__":

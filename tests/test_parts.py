@@ -1,7 +1,7 @@
 import unittest
 
 from handshaker.limits import are_within_limits, measure
-from handshaker.parts import expressions_of, lists_of, parts_of
+from handshaker.parts import expressions_of, lists_of, occurs, parts_of
 from tests.programs import WORDS_OF_TWO
 
 ONE = ("number", 1)
@@ -10,11 +10,21 @@ X = ("local", "x")
 
 class PartsTest(unittest.TestCase):
     def test_parts_of_expressions(self):
-        rows = ((ONE, ()), (X, ()), (("cell", "a", X), (X,)), (("negative", X), (X,)), (("not", ONE), (ONE,)))
+        rows = (
+            (ONE, ()), (X, ()), (("slot", 3), ()), (("cell", "a", X), (X,)), (("negative", X), (X,)),
+            (("not", ONE), (ONE,)),
+        )
         for expression, parts in rows:
             self.assertEqual(parts_of(expression), parts)
         for word in WORDS_OF_TWO:
             self.assertEqual(parts_of((word, X, ONE)), (X, ONE))
+
+    def test_occurs(self):
+        whole = ("and", ("not", X), ("cell", "a", ("negative", ONE)))
+        for word in ("and", "not", "local", "cell", "negative", "number"):
+            self.assertIs(occurs(word, whole), True)
+        for word in ("or", "slot", "x", "a"):
+            self.assertIs(occurs(word, whole), False)
 
     def test_expressions_and_lists_of_statements(self):
         first, second = [("undo",)], [("retry",)]
