@@ -96,3 +96,51 @@ class Maker:
             return ("block", None, body, [])
         limit = self.expression(2, False)
         return ("block", limit, body, self.statements(False, depth + 1, repeats))
+
+
+class Contender(Maker):
+    """Makes small programs whose threads often read and write the same few cells, and seldom come to faults."""
+
+    def program(self):
+        self.cells = [(name, 2, self.choice.choice((0, 0, 1))) for name in ("a", "b")[:self.choice.randint(1, 2)]]
+        threads = []
+        for name in ("ann", "bob", "cid", "dan")[:self.choice.randint(2, 4)]:
+            self.variables = [("x", self.number()), ("y", self.number())]
+            self.left = self.choice.randint(3, 14)
+            threads.append(Thread(name, self.variables, self.body()))
+        return Program(self.cells, threads)
+
+    def body(self):
+        """One or two blocks, perhaps within a repeat, and other statements."""
+        blocks = [self.block(1, 0) for _ in range(self.choice.randint(1, 2))]
+        if self.choice.random() < 0.3:
+            blocks = [("repeat", ("number", 2), blocks)]
+        return [*blocks, *self.statements(False, 1, 0)]
+
+    def number(self):
+        return self.choice.choice((0, 0, 1, 1, 2, 3))
+
+    def expression(self, depth, with_cells):
+        if depth == 0 or self.choice.random() < 0.4:
+            if with_cells and self.choice.random() < 0.6:
+                return ("cell", self.choice.choice(self.cells)[0], self.index(depth, True))
+            if self.choice.random() < 0.5:
+                return ("local", self.choice.choice(self.variables)[0])
+            return ("number", self.number())
+        if self.choice.random() < 0.15:
+            return ("not", self.expression(depth - 1, with_cells))
+        word = self.choice.choice(("plus", "plus", "minus", "less", "same", "and", "or"))
+        return (word, self.expression(depth - 1, with_cells), self.expression(depth - 1, with_cells))
+
+    def index(self, depth, with_cells):
+        if depth == 0 or self.choice.random() < 0.7:
+            return ("number", self.choice.randint(0, 1))
+        return ("same", self.expression(depth - 1, with_cells), self.expression(depth - 1, with_cells))
+
+    def statement(self, in_block, depth, repeats):
+        statement = super().statement(in_block, depth, repeats)
+        if statement[0] in ("retry", "undo", "pause", "repeat") and self.choice.random() < 0.6:
+            return super().statement(in_block, depth, repeats)
+        if statement[0] == "later" and self.choice.random() < 0.5:
+            return ("if", self.expression(1, True), [("retry",)], [])
+        return statement
