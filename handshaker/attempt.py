@@ -7,7 +7,7 @@ class Try(Walk):
     """A try of a thread, which begins at the present clock of the stripes."""
 
     def __init__(self, thread, code, frame, stripes):
-        super().__init__(code, frame)
+        self.begin(code, frame)
         self.thread = thread
         self.start = stripes.clock
         self._stripes = stripes

@@ -33,6 +33,10 @@ class Walk:
     """A way through the code of a block: how far it has come, and what it keeps to itself."""
 
     def __init__(self, code, frame):
+        self.begin(code, frame)
+
+    def begin(self, code, frame):
+        """Be at the beginning of the code, with a copy of the frame."""
         self.code = code
         self.at = 0
         self.frame = list(frame)

@@ -64,6 +64,7 @@ class Watched:
             case.assertEqual(told(machine), before)
         found = machine.records()
         case.assertEqual([id(one) for one in found[:len(records)]], [id(one) for one in records])
+        case.assertEqual([vars(one) for one in records], before[5])
         case.assertLessEqual(len(found), len(records) + (did and pick != -1))
         self.watch_stages(pick, before[1], machine.stages(), moment)
         for record in found[len(records):]:
@@ -180,9 +181,19 @@ def agree(case, reads, memory):
 
 
 def told(machine):
-    """All that a machine tells."""
+    """All that a machine tells, in copies that do not change with it."""
     threads = range(len(machine.stages()))
-    records = [vars(record) for record in machine.records()]
-    return (machine.memory(), machine.stages(), machine.said(), machine.ticks(), machine.moment(), records,
-            [machine.current_reads(thread) for thread in threads], machine.is_committing(), machine.is_at_rest(),
+    records = [copied(vars(record)) for record in machine.records()]
+    reads = [copied(machine.current_reads(thread)) for thread in threads]
+    return (copied(machine.memory()), list(machine.stages()), copied(machine.said()), list(machine.ticks()),
+            machine.moment(), records, reads, machine.is_committing(), machine.is_at_rest(),
             machine.end() if machine.is_at_rest() else None)
+
+
+def copied(value):
+    """A copy of lists and dicts, also of those within."""
+    if isinstance(value, list):
+        return [copied(one) for one in value]
+    if isinstance(value, dict):
+        return {key: copied(one) for key, one in value.items()}
+    return value

@@ -209,17 +209,10 @@ class CodeTest(unittest.TestCase):
                     self.assertNotIn(node.id, taken, f"{name}:{node.lineno}")
 
     def test_builtins(self):
-        own = {name for _, name in bound_names()} | {"super"}
+        own = {name for _, name in bound_names()}
         for place, node in nodes(ast.Name):
             if isinstance(node.ctx, ast.Load) and node.id not in own:
                 self.assertIn(node.id, ALLOWED_BUILTINS, place)
-
-    def test_super_is_called_for_a_method(self):
-        good = {id(node.value.func) for _, node in nodes(ast.Attribute)
-                if isinstance(node.value, ast.Call) and node.value.args == []}
-        for place, node in nodes(ast.Name):
-            if node.id == "super":
-                self.assertIn(id(node), good, place)
 
     def test_methods(self):
         for place, node in nodes(ast.Call):
@@ -230,7 +223,7 @@ class CodeTest(unittest.TestCase):
         assigned = {node.attr for _, node in nodes(ast.Attribute) if isinstance(node.ctx, ast.Store)}
         self.assertEqual(assigned & BARRED_ATTRIBUTES, set())
         for place, node in nodes(ast.Attribute):
-            self.assertIn(node.attr, assigned | METHODS | ALLOWED_METHODS | {"__init__"}, place)
+            self.assertIn(node.attr, assigned | METHODS | ALLOWED_METHODS, place)
 
     def test_no_name_is_a_method_and_an_attribute_in_a_family(self):
         families = {}

@@ -158,6 +158,12 @@ class RecordTest(unittest.TestCase):
         record = Record(2, 3, 9, "done", {0: 1}, {1: 2}, 5)
         self.assertEqual(all_of(record), (2, 3, 9, "done", {0: 1}, {1: 2}, 5))
 
+    def test_a_record_keeps_what_it_was_given(self):
+        reads, writes = {0: 1}, {1: 2}
+        record = Record(2, 3, 9, "done", reads, writes, 5)
+        reads[7] = writes[7] = 7
+        self.assertEqual(all_of(record), (2, 3, 9, "done", {0: 1}, {1: 2}, 5))
+
     def test_stamped(self):
         rows = (
             (0, 30, "done", {}, 4), (1, 20, "done", {}, 4), (2, 40, "done", {0: 1}, 4), (3, 1, "lost", {}, 1),

@@ -9,8 +9,9 @@ from handshaker.walk import evaluate_slots, walk_block
 def course(thread):
     """What a thread does, statement by statement.
 
-    These are ("say", value), ("pause", ticks), ("block", statement, ticks, locals). To a block it is sent the outcome, or None if the limit is used up. A fault
-    is raised. Nothing of the flat code is used here.
+    These are ("say", value), ("pause", ticks), ("block", statement, ticks, locals). To a
+    block it is sent the outcome, or None if the limit is used up. A fault is raised.
+    Nothing of the flat code is used here.
     """
     locals_now = dict(thread.variables)
     yield from course_of_list(thread.body, locals_now)
