@@ -4,8 +4,7 @@ from handshaker.attempt import Try
 from handshaker.commit import Commit
 from handshaker.errors import Fault
 from handshaker.flat import flat_thread
-from handshaker.limits import MOST_TICKS
-from handshaker.walk import evaluate_slots, go_on
+from handshaker.walk import evaluate_slots, go_on, ticks_of
 
 
 class Runner:
@@ -65,10 +64,10 @@ class Runner:
             self.words.append(evaluate_slots(instruction[1], self.frame))
             self.at += 1
         elif word == "pause":
-            self.left = _ticks(instruction[1], self.frame)
+            self.left = ticks_of(instruction[1], self.frame)
             self.stage = "pausing"
         elif word == "block":
-            self.left = _ticks(instruction[2], self.frame)
+            self.left = ticks_of(instruction[2], self.frame)
             self.armed = True
         else:
             self.at = go_on(instruction, self.at, self.frame)
@@ -121,11 +120,3 @@ class Runner:
         if attempt.state == "done":
             self.frame = list(attempt.frame)
             self.words.extend(attempt.later)
-
-
-def _ticks(expression, frame):
-    """Return the ticks of a pause or a limit."""
-    ticks = evaluate_slots(expression, frame)
-    if ticks < 0 or ticks > MOST_TICKS:
-        raise Fault("count")
-    return ticks

@@ -1,7 +1,7 @@
 """Walking flat code."""
 
 from handshaker.errors import Fault
-from handshaker.limits import MOST_TIMES
+from handshaker.limits import MOST_TICKS, MOST_TIMES
 from handshaker.plain import Outcome
 from handshaker.values import value_with
 
@@ -13,6 +13,14 @@ def evaluate_slots(expression, frame):
         return frame[part[1]]
 
     return value_with(expression, look)
+
+
+def ticks_of(expression, frame):
+    """Return the ticks of a pause or a limit; raise Fault where it has none."""
+    ticks = evaluate_slots(expression, frame)
+    if ticks < 0 or ticks > MOST_TICKS:
+        raise Fault("count")
+    return ticks
 
 
 def go_on(instruction, at, frame):

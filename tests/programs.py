@@ -144,3 +144,39 @@ class Contender(Maker):
         if statement[0] == "later" and self.choice.random() < 0.5:
             return ("if", self.expression(1, True), [("retry",)], [])
         return statement
+
+
+class Rival(Contender):
+    """Makes very small programs, in which it mostly matters who comes first."""
+
+    def program(self):
+        self.cells = [("a", 1, self.number()), ("b", 2, self.number())][:self.choice.randint(1, 2)]
+        threads = []
+        for number, name in enumerate(("ann", "bob", "cid")[:self.choice.randint(2, 3)]):
+            self.variables = [("x", number + 1)]
+            body = [self.part() for _ in range(self.choice.randint(1, 2))]
+            threads.append(Thread(name, self.variables, [*body, ("say", ("local", "x"))]))
+        return Program(self.cells, threads)
+
+    def part(self):
+        """A block, or now and then another statement."""
+        if self.choice.random() < 0.15:
+            return self.choice.choice((("pause", ("number", self.choice.randint(0, 2))), ("say", ("local", "x"))))
+        cell, other = (self.cell(), self.cell())
+        body = [("set", "x", ("plus", cell, self.expression(1, True))), ("put", *other[1:], self.expression(2, True))]
+        test = ("if", (self.choice.choice(("same", "less")), cell, ("number", self.choice.randint(0, 2))))
+        way = self.choice.choice(([("retry",)], [("undo",)], [("later", other)], [("put", *cell[1:], ("local", "x"))]))
+        body.insert(self.choice.randint(0, 2), (*test, way, []))
+        if self.choice.random() < 0.2:
+            body = [("choose", body, [("put", *other[1:], ("number", 7)), ("later", ("local", "x"))])]
+        if self.choice.random() < 0.3:
+            late = [("set", "x", ("number", self.choice.randint(-3, -1)))]
+            return ("block", ("number", self.choice.randint(0, 2)), body, late)
+        return ("block", None, body, [])
+
+    def cell(self):
+        name, size, _ = self.choice.choice(self.cells)
+        return ("cell", name, ("number", self.choice.randrange(size)))
+
+    def index(self, depth, with_cells):
+        return ("number", 0)
