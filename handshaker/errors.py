@@ -63,3 +63,10 @@ class InvalidVersion(HandshakerError):
 
 class NotAtRest(HandshakerError):
     """A machine that has not come to rest has no end."""
+
+
+class Refused(HandshakerError):
+    """A line that a desk refuses, for a reason; the desk answers it."""
+
+    def __init__(self, reason):
+        self.reason = reason

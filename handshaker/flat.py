@@ -69,7 +69,8 @@ def _write_repeat(coder, statement):
     coder.emit(("count", slot, flat_expression(coder, statement[1])))
     fork = coder.emit(("unless", ("slot", slot), None))
     _write_list(coder, statement[2])
-    coder.emit(("set", slot, ("minus", ("slot", slot), ("number", 1))))
+    # Where a frame from elsewhere has another number, a repeat shall be over soon, too.
+    coder.emit(("count", slot, ("minus", ("slot", slot), ("number", 1))))
     coder.emit(("jump", fork))
     coder.land(fork)
 

@@ -12,6 +12,7 @@ WITH_ONE = (
     ("ImpossibleStep", "step", 3),
     ("UnknownThread", "thread", 7),
     ("InvalidLine", "line", "~" * 201),
+    ("Refused", "reason", "word"),
 )
 
 
